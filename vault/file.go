@@ -18,32 +18,6 @@ type beginning struct {
 	key    string
 }
 
-// Encrypt writes the file of text (P12).
-func Encrypt(masters []string, en *ground.Spring, text string) (string, api.Errno) {
-	f, e := begin(masters, en)
-	if e != api.OK {
-		return "", e
-	}
-	out := []byte(f.header + f.draw)
-	var number uint64
-	// A full chunk with nothing behind it is the last one, so that the last is empty of an empty text alone.
-	for len(text) > api.ChunkLen {
-		box, e := sealChunk(f.key, number, false, text[:api.ChunkLen])
-		if e != api.OK {
-			return "", e
-		}
-		out = append(out, box...)
-		text = text[api.ChunkLen:]
-		number++
-	}
-	box, e := sealChunk(f.key, number, true, text)
-	if e != api.OK {
-		return "", e
-	}
-	out = append(out, box...)
-	return string(out), api.OK
-}
-
 // begin draws what a file needs, in the order of P11, and lays its beginning together.
 func begin(masters []string, en *ground.Spring) (beginning, api.Errno) {
 	e := checkMasters(masters)
